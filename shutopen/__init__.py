@@ -1,0 +1,1 @@
+"""Shutopen tells what rests in a vessel whose wares are shut in or open."""

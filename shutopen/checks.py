@@ -1,0 +1,28 @@
+"""Checks of arguments that many functions take: rows and lots, with the index of the first wrong item."""
+
+from shutopen.errors import InvalidLot, InvalidRow
+from shutopen.words import is_fraction, is_listed
+
+
+def check_row(value, many):
+    if not isinstance(value, tuple) or len(value) != many:
+        raise InvalidRow(-1)
+    for at, item in enumerate(value):
+        if not is_fraction(item):
+            raise InvalidRow(at)
+
+
+def check_lot(value, names):
+    if not isinstance(value, (list, tuple)):
+        raise InvalidLot(-1)
+    for at, item in enumerate(value):
+        if not is_listed(item, names) or item in value[:at]:
+            raise InvalidLot(at)
+
+
+def first_double(names):
+    """The index of the first name that stands ahead, None if there is none."""
+    for at, name in enumerate(names):
+        if name in names[:at]:
+            return at
+    return None
