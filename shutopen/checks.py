@@ -1,7 +1,15 @@
-"""Checks of arguments that many functions take: rows and lots, with the index of the first wrong item."""
+"""Checks of arguments that many functions take: rows and lots, with the index of the first wrong item, and sizes."""
 
-from shutopen.errors import InvalidLot, InvalidRow
+from shutopen.errors import InvalidLot, InvalidRow, TooMany
 from shutopen.words import is_fraction, is_listed
+
+MOST_SEARCHED = 12
+
+
+def check_searched(book):
+    """All sets of kinds of a book are gone through only if there are not too many."""
+    if len(book.kinds) > MOST_SEARCHED:
+        raise TooMany(MOST_SEARCHED)
 
 
 def check_row(value, many):

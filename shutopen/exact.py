@@ -48,6 +48,24 @@ def compared(one, other):
     return sign(minus(one, other))
 
 
+def least_of(values):
+    """The least of some fractions, None if there are none."""
+    found = None
+    for value in values:
+        if found is None or compared(value, found) < 0:
+            found = value
+    return found
+
+
+def places_in_order(rows):
+    """The indexes of rows of one length, the least row first, by the worth of the items."""
+    # With one common factor the rows become tuples of numbers, which Python orders as it should.
+    numbers, _ = cleared([item for row in rows for item in row])
+    width = len(rows[0]) if rows else 0
+    keys = [(tuple(numbers[at * width:(at + 1) * width]), at) for at in range(len(rows))]
+    return [at for _, at in sorted(keys)]
+
+
 def product(one, other):
     total = ZERO
     for item, weight in zip(one, other):

@@ -4,6 +4,7 @@ from shutopen.errors import RunsAway, Unfillable
 from shutopen.exact import zeros
 from shutopen.fills import Fill
 from shutopen.pivots import solve, solve_in_order
+from shutopen.shutrows import price_row, shut_amounts, shut_columns, shut_row
 from shutopen.sums import costs_of
 
 
@@ -21,15 +22,12 @@ class Rest:
 
 
 def end_of(vessel):
-    book = vessel.book
-    places = vessel.shut_places()
-    columns = [at_places(kind.as_row(), places) for kind in book.kinds]
-    found = solve_in_order(columns, at_places(vessel.amounts, places), vessel.net_costs())
+    found = solve_in_order(shut_columns(vessel), shut_amounts(vessel), vessel.net_costs())
     if found[0] == "none":
-        return ("unfillable", with_items(zeros(len(book.wares)), places, found[1]))
+        return ("unfillable", shut_row(vessel, found[1]))
     if found[0] == "down":
-        return ("runs", Fill(book, found[1]), found[2])
-    return ("rests", Fill(book, found[1]), with_items(vessel.open_prices(), places, found[2]))
+        return ("runs", Fill(vessel.book, found[1]), found[2])
+    return ("rests", Fill(vessel.book, found[1]), price_row(vessel, found[2]))
 
 
 def rest_of(vessel):
@@ -44,15 +42,3 @@ def rest_of(vessel):
 def hollow_paper(book):
     found = solve([kind.as_row() for kind in book.kinds], zeros(len(book.wares)), costs_of(book))
     return found[2] if found[0] == "down" else None
-
-
-def at_places(row, places):
-    return tuple([row[at] for at in places])
-
-
-def with_items(row, places, items):
-    """The row with other items at some places."""
-    found = list(row)
-    for at, item in zip(places, items):
-        found[at] = item
-    return tuple(found)

@@ -1,9 +1,16 @@
 import unittest
 
 from shutopen.books import Book
+from shutopen.corners import corners
+from shutopen.downhill import apart
 from shutopen.ends import is_unfillable
 from shutopen.errors import InvalidText
+from shutopen.kinds import Kind
+from shutopen.lots import freedom, together
+from shutopen.rates import first_cost, first_gain
+from shutopen.reactions import least_reactions
 from shutopen.rests import rest_of
+from shutopen.stretches import stretches
 from shutopen.vessels import Vessel
 from tests.helpers import EXAMPLE
 
@@ -24,6 +31,37 @@ class TestExamples(unittest.TestCase):
         vessel = Vessel(book, [('shut', (4, 1)), ('shut', (1, 1)), ('shut', (49, 1))])
         self.assertEqual([is_unfillable(vessel, ((-12, 1), (0, 1), (1, 1))), is_unfillable(vessel, ((0, 1), (0, 1), (1, 1)))],
                          [True, False])
+
+    def test_least_reactions(self):
+        book = Book.read(EXAMPLE)
+        vessel = Vessel(book, [('shut', (4, 1)), ('shut', (1, 1)), ('open', (5, 2))])
+        self.assertEqual([str(reaction) for reaction in least_reactions(vessel)],
+                         ['1 ice to 1 water', '3 ice, 1 salt to 1 brine', '1 ice to 1 steam', '3 water, 1 salt to 1 brine',
+                          '1 water to 1 steam', '1 salt, 3 steam to 1 brine'])
+
+    def test_together_and_apart(self):
+        book = Book.read(EXAMPLE)
+        self.assertEqual([str(apart(book, ['water', 'salt'])), together(book, ['water', 'salt']), freedom(book, ['ice', 'salt', 'brine']),
+                          freedom(book, ['ice', 'brine']), together(book, ['ice', 'salt', 'brine'])[1]],
+                         ['4 water, 1 salt to 1 ice, 1 brine', None, 0, 1, ('ice', 'salt', 'brine')])
+
+    def test_rates(self):
+        book = Book.read(EXAMPLE)
+        vessel = Vessel(book, [('shut', (4, 1)), ('shut', (1, 1)), ('shut', (8, 1))])
+        heat = ((0, 1), (0, 1), (1, 1))
+        self.assertEqual([first_cost(vessel, heat)[:2], first_gain(vessel, heat)[:2]], [('rate', (3, 1)), ('rate', (9, 4))])
+
+    def test_stretches(self):
+        book = Book.read(EXAMPLE)
+        vessel = Vessel(book, [('shut', (4, 1)), ('shut', (1, 1)), ('open', (5, 2))])
+        self.assertEqual([(part.low, part.high, part.amount) for part in stretches(vessel, ware='heat', window=((0, 1), (5, 1)))],
+                         [((0, 1), (9, 4), (0, 1)), ((9, 4), (3, 1), (8, 1)), ((3, 1), (4, 1), (10, 1)), ((4, 1), (30, 7), (20, 1)),
+                          ((30, 7), (5, 1), (48, 1))])
+
+    def test_corners(self):
+        book = Book(['stuff', 'heat', 'room'], Kind('solid', (1, 0, 2)), Kind('liquid', (1, 2, 1), cost=(6, 1)),
+                    Kind('vapour', (1, 12, 20), cost=(34, 1)))
+        self.assertEqual(corners(book), [(((1, 6), (71, 24), (-1, 12)), ('solid', 'liquid', 'vapour'))])
 
     def test_text(self):
         with self.assertRaises(InvalidText) as caught:

@@ -20,7 +20,19 @@ FUNCTIONS = {
               "touches": "(book, row, fill)"},
     "ends": {"is_rest": "(vessel, fill, row)", "is_unfillable": "(vessel, row)", "is_runaway": "(vessel, fill, mixture)",
              "is_hollow_by": "(book, mixture)"},
-    "rests": {"end_of": "(vessel)", "rest_of": "(vessel)", "hollow_paper": "(book)"}}
+    "rests": {"end_of": "(vessel)", "rest_of": "(vessel)", "hollow_paper": "(book)"},
+    "reactions": {"is_change": "(vessel, value)", "reaction_cost": "(vessel, reaction)", "is_least": "(vessel, reaction)",
+                  "least_reactions": "(vessel)"},
+    "splitting": {"split": "(vessel, change)"},
+    "ways": {"way": "(vessel, fill)"},
+    "downhill": {"downhill": "(vessel, fill)", "apart": "(book, lot)"},
+    "lots": {"together": "(book, lot)", "rank_of": "(book, lot)", "freedom": "(book, lot)", "lots": "(book, *, size=None)"},
+    "corners": {"corners": "(book)", "free_rows": "(book, lot)", "swing": "(book, row, direction)"},
+    "sure": {"maybe": "(vessel)", "freedoms": "(vessel)", "other_rest": "(vessel)", "other_row": "(vessel, row)"},
+    "extents": {"extent": "(vessel, name)", "held": "(vessel, ware)"},
+    "rates": {"first_cost": "(vessel, direction)", "first_gain": "(vessel, direction)", "small_step": "(vessel, direction)"},
+    "stretches": {"stretches": "(vessel, *, ware, window)", "cooled": "(vessel, *, ware, window)"},
+    "bases": {"is_base": "(vessel, value)", "base_field": "(vessel, base, *, ware, other, window)"}}
 
 CLASSES = {
     "kinds": {"Kind": ("(name, numbers, *, cost=(0, 1))", {"as_row": "(self)", "text": "(self)"}, ["__eq__", "__repr__"])},
@@ -35,7 +47,24 @@ CLASSES = {
         "shut_wares": "(self)", "open_wares": "(self)", "state": "(self, ware)", "with_state": "(self, ware, state)",
         "with_amounts": "(self, row)", "with_book": "(self, book)", "net_costs": "(self)", "fits": "(self, fill)",
         "burden_of": "(self, fill)"}, ["__eq__", "__str__", "__repr__"])},
-    "rests": {"Rest": (None, {}, ["__repr__"])}}
+    "rests": {"Rest": (None, {}, ["__repr__"])},
+    "reactions": {"Reaction": ("(book, parts)", {
+        "as_row": "(self)", "used": "(self)", "made": "(self)", "contents_of": "(self)", "uses_only": "(self, fill)"},
+        ["__neg__", "__eq__", "__str__", "__len__", "__repr__"])},
+    "ways": {"Way": (None, {"stops": "(self, *, order=None)"}, ["__len__", "__repr__"])},
+    "extents": {"Extent": (None, {}, ["__repr__"])},
+    "charts": {
+        "Chart": ("(vessel)", {"cones": "(self)", "great": "(self)", "cone_of": "(self, point)", "neighbours": "(self, cone)"},
+                  ["__len__", "__repr__"]),
+        "Cone": (None, {"holds": "(self, point)", "inside": "(self, point)", "mixed": "(self, point)"},
+                 ["__and__", "__eq__", "__repr__"])},
+    "stretches": {"PriceStretch": (None, {}, ["__repr__"])},
+    "fields": {
+        "Fields": ("(vessel, *, ware, other, window)", {"fields": "(self)", "field_at": "(self, point)", "borders": "(self)"},
+                   ["__len__", "__repr__"]),
+        "Field": (None, {}, ["__contains__", "__repr__"])}}
+
+GENERATORS = [("reactions", "least_reactions"), ("lots", "lots")]
 
 STATIC = [("books", "Book", "read"), ("fills", "Fill", "of")]
 
@@ -66,3 +95,7 @@ class TestInterface(unittest.TestCase):
         for file, name, method in STATIC:
             found = getattr(importlib.import_module(f"shutopen.{file}"), name)
             self.assertIs(type(vars(found)[method]), staticmethod)
+
+    def test_generators(self):
+        for file, name in GENERATORS:
+            self.assertTrue(inspect.isgeneratorfunction(getattr(importlib.import_module(f"shutopen.{file}"), name)))

@@ -1,4 +1,3 @@
-import random
 import unittest
 from fractions import Fraction
 
@@ -8,18 +7,8 @@ from shutopen.fills import Fill
 from shutopen.kinds import Kind
 from shutopen.rests import end_of, hollow_paper, rest_of
 from shutopen.vessels import Vessel
-from tests.helpers import basic_mixtures, dot, example_book, example_vessel, frac, fraction_list, fracs, pair, row, summed
-
-
-def shut_columns(vessel):
-    places = [at for at, state in enumerate(vessel.states) if state[0] == "shut"]
-    return [tuple([kind.as_row()[at] for at in places]) for kind in vessel.book.kinds], tuple([vessel.amounts[at] for at in places])
-
-
-def net_costs(vessel):
-    """The net costs by [6], with Python's own fractions."""
-    return [frac(kind.cost) - sum(frac(value) * number for (word, value), number in zip(vessel.states, kind.numbers) if word == "open")
-            for kind in vessel.book.kinds]
+from tests.helpers import (basic_mixtures, dot, example_book, example_vessel, frac, fracs, net_costs, pair, random_vessels, row,
+                           shut_columns, summed)
 
 
 def told_rest(vessel):
@@ -29,24 +18,6 @@ def told_rest(vessel):
         return None
     costs = net_costs(vessel)
     return min(fills, key=lambda fill: (sum(a * b for a, b in zip(fill, costs)), fill))
-
-
-def random_vessels(seed, many):
-    rnd = random.Random(seed)
-    for _ in range(many):
-        wares = "abcd"[:rnd.randint(1, 4)]
-        kinds = []
-        for name in "qrstuv"[:rnd.randint(1, 6)]:
-            numbers = [rnd.randint(-1, 3) if rnd.random() < 0.8 else 0 for _ in wares]
-            if kinds and rnd.random() < 0.2:
-                numbers = rnd.choice(kinds).numbers
-            kinds.append(Kind(name, numbers, cost=pair(Fraction(rnd.randint(-1, 5), rnd.randint(1, 2)))))
-        book = Book(list(wares), *kinds)
-        inside = Fill(book, fraction_list(rnd, len(kinds), 0, 3, 2)).contents
-        if rnd.random() < 0.3:
-            inside = fraction_list(rnd, len(wares))
-        states = [("shut", part) if rnd.random() < 0.7 else ("open", pair(Fraction(rnd.randint(-4, 4), 2))) for part in inside]
-        yield Vessel(book, states)
 
 
 class EndCase(unittest.TestCase):
