@@ -50,7 +50,7 @@ def base_changes(vessel, base):
     """
     columns = shut_columns(vessel)
     inside = [at for at, name in enumerate(vessel.book.names) if name in base]
-    rows = [tuple([columns[at][ware] for at in inside]) for ware in range(len(columns[0]))]
+    rows = [tuple([columns[k][ware] for k in inside]) for ware in range(len(columns[0]))]
     found = []
     for at, column in enumerate(columns):
         weights = solution(rows, column, len(inside))

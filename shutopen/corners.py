@@ -16,11 +16,12 @@ def corners(book):
         return []
     columns = [kind.as_row() for kind in book.kinds]
     costs = costs_of(book)
-    pairs = []
+    rows = []
+    touched_lots = []
     for places in least_places([kind.numbers for kind in book.kinds], costs):
-        row = solution([columns[at] for at in places], [costs[at] for at in places], len(book.wares))
-        pairs.append((row, names_at(book, places)))
-    return [pairs[at] for at in places_in_order([row for row, _ in pairs])]
+        rows.append(solution([columns[at] for at in places], [costs[at] for at in places], len(book.wares)))
+        touched_lots.append(names_at(book, places))
+    return [(rows[at], touched_lots[at]) for at in places_in_order(rows)]
 
 
 def free_rows(book, lot):

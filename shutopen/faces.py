@@ -17,7 +17,8 @@ def touched_places(columns, costs):
     """
     sets = met_sets(least_sets(columns, costs), ray_sets(columns))
     found = [places_of(one, len(columns)) for one in sets]
-    return [places for _, places in sorted([(len(places), places) for places in found])]
+    keys = sorted([(len(places), places) for places in found])
+    return [places for _, places in keys]
 
 
 def least_places(columns, costs):

@@ -223,6 +223,28 @@ class TestStatements(unittest.TestCase):
                 is_join = isinstance(node.parent.func, ast.Attribute) and node.parent.func.attr == "join"
                 self.assertTrue(is_join or called(node.parent) in ("list", "tuple", "dict"), where)
 
+    def test_generators_are_iterated_at_once(self):
+        functions = [(where, node) for where, node in self.nodes() if isinstance(node, ast.FunctionDef)]
+        names = {node.name for _, node in functions if any(isinstance(part, (ast.Yield, ast.YieldFrom)) for part in ast.walk(node))}
+        for name in names:
+            self.assertEqual(len([node for _, node in functions if node.name == name]), 1, name)
+        for where, node in self.nodes():
+            if isinstance(node, ast.Name) and node.id in names:
+                call = node.parent
+                self.assertTrue(isinstance(call, ast.Call) and call.func is node, where)
+                iterated = isinstance(call.parent, (ast.For, ast.comprehension)) and call.parent.iter is call
+                self.assertTrue(iterated or called(call.parent) in TAKERS - {"len", "reversed"}, where)
+                plain = (ast.Name, ast.Attribute, ast.Constant)
+                self.assertTrue(all(isinstance(part, plain) for part in [*call.args, *[more.value for more in call.keywords]]), where)
+
+    def test_methods_of_double_underscores_assign_nothing_but_lists(self):
+        for where, node in self.nodes():
+            if isinstance(node, ast.FunctionDef) and node.name in ("__eq__", "__repr__", "__str__", "__len__"):
+                self.assertIsInstance(node.body[-1], ast.Return, where)
+                for part in ast.walk(node):
+                    self.assertFalse(isinstance(part, ast.AugAssign), where)
+                    self.assertTrue(not isinstance(part, ast.Assign) or isinstance(part.value, (ast.List, ast.ListComp, ast.Dict)), where)
+
     def test_raised_on_the_spot(self):
         for where, node in self.nodes():
             if isinstance(node, ast.Raise) and node.exc is not None:
