@@ -11,10 +11,7 @@ MOST_KINDS = 10
 
 def read_parts(text):
     """The pair of the list of the wares and the list of the kinds of a book with this text."""
-    if not isinstance(text, str):
-        raise InvalidText(0, "form")
-    lines = text.split("\n")
-    unended = lines.pop()
+    lines, is_ended = ended_lines(text)
     wares = []
     kinds = []
     for at, line in enumerate(lines):
@@ -27,11 +24,20 @@ def read_parts(text):
             kinds.append(kind)
         if why is not None:
             raise InvalidText(at, why)
-    if unended:
+    if not is_ended:
         raise InvalidText(len(lines), "form")
     if not kinds:
         raise InvalidText(len(lines), "missing")
     return wares, kinds
+
+
+def ended_lines(text):
+    """The pair of the list of the lines of a text that have a line feed, and whether nothing stands behind them."""
+    if not isinstance(text, str):
+        raise InvalidText(0, "form")
+    lines = text.split("\n")
+    behind = lines.pop()
+    return lines, not behind
 
 
 def wares_fault(line):

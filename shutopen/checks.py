@@ -34,3 +34,15 @@ def first_double(names):
         if name in names[:at]:
             return at
     return None
+
+
+def first_wrong(value, is_right):
+    """-1 if a value is no list or tuple, otherwise the index of the first item that is not right, None if there is
+    none.
+    """
+    if not isinstance(value, (list, tuple)):
+        return -1
+    for at, item in enumerate(value):
+        if not is_right(item):
+            return at
+    return None

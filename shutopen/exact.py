@@ -73,6 +73,14 @@ def product(one, other):
     return total
 
 
+def sum_of(row):
+    """The sum of the items of a row."""
+    total = ZERO
+    for item in row:
+        total = plus(total, item)
+    return total
+
+
 def scaled(row, value):
     return tuple([times(item, value) for item in row])
 

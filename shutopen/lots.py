@@ -73,6 +73,10 @@ def lots(book, *, size=None):
 def check_body(book):
     """Looks at what must hold of a book whose body is gone through."""
     check_searched(book)
+    check_not_hollow(book)
+
+
+def check_not_hollow(book):
     mixture = hollow_paper(book)
     if mixture is not None:
         raise Hollow(mixture)

@@ -9,8 +9,12 @@ from shutopen.books import Book, wide_book
 from shutopen.errors import InvalidName
 from shutopen.fills import Fill
 from shutopen.kinds import Kind
+from shutopen.looks import Looks
+from shutopen.owners import Owners
 from shutopen.pivots import solve
+from shutopen.reactions import Reaction
 from shutopen.vessels import Vessel
+from shutopen.works import Works
 
 EXAMPLE = ("wares water salt heat\n"
            "kind ice 1 0 0 cost 0\n"
@@ -34,7 +38,8 @@ def any_values():
     vessel = Vessel(book, [("shut", (1, 1))])
     return [None, True, False, "", "A b", "open", 7, -1, 1.5, (), [], {}, {"a": (1, 1)}, {"a": [1, {}]}, (None,), [None],
             [True], (True, 1), (1, True), ((True, 1),), [(1, 1)], [[1, 1]], ((2, 4),), "word", {"x": None}, (((1, 1),),),
-            book, Kind("a", (1,)), vessel, Fill(book, [(1, 1)]), [book], (vessel, [book]), InvalidName("x")]
+            book, Kind("a", (1,)), vessel, Fill(book, [(1, 1)]), [book], (vessel, [book]), InvalidName("x"), Reaction(book, [1]),
+            Works(book, [("a", ((1, 1),))]), Looks(book), Owners(vessel, ("a", ((1, 1),)))]
 
 
 def frac(value):

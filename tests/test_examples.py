@@ -1,5 +1,7 @@
 import unittest
 
+from shutopen.bench import Bench
+from shutopen.bodies import key
 from shutopen.books import Book
 from shutopen.corners import corners
 from shutopen.downhill import apart
@@ -7,11 +9,15 @@ from shutopen.ends import is_unfillable
 from shutopen.errors import InvalidText
 from shutopen.kinds import Kind
 from shutopen.lots import freedom, together
+from shutopen.needless import needless
+from shutopen.owners import Owners
 from shutopen.rates import first_cost, first_gain
 from shutopen.reactions import least_reactions
 from shutopen.rests import rest_of
 from shutopen.stretches import stretches
 from shutopen.vessels import Vessel
+from shutopen.workrests import works_rest
+from shutopen.works import Works
 from tests.helpers import EXAMPLE
 
 
@@ -62,6 +68,35 @@ class TestExamples(unittest.TestCase):
         book = Book(['stuff', 'heat', 'room'], Kind('solid', (1, 0, 2)), Kind('liquid', (1, 2, 1), cost=(6, 1)),
                     Kind('vapour', (1, 12, 20), cost=(34, 1)))
         self.assertEqual(corners(book), [(((1, 6), (71, 24), (-1, 12)), ('solid', 'liquid', 'vapour'))])
+
+    def test_works(self):
+        book = Book.read(EXAMPLE)
+        pots = [('a', ((0, 1), (1, 1), (0, 1))), ('b', ((4, 1), (0, 1), (0, 1)))]
+        doors = [('heat', 'a', (5, 2)), ('heat', 'b', (5, 2))]
+        works = Works(book, pots, doors=doors, valves=[('water', 'b', 'a', (1, 4))])
+        rest = works_rest(works)
+        self.assertEqual([rest.flows, rest.burden, rest.fills[0].lot, rest.fills[1].lot], [((3, 1),), (-5, 4), ('brine',), ('ice',)])
+
+    def test_owners(self):
+        book = Book.read(EXAMPLE)
+        vessel = Vessel(book, [('shut', (4, 1)), ('shut', (1, 1)), ('open', (5, 2))])
+        owners = Owners(vessel, ('ada', ((4, 1), (0, 1), (0, 1))), ('ben', ((0, 1), (1, 1), (0, 1))))
+        self.assertEqual([owners.total, owners.undone(((-1, 1), (-1, 1))), owners.is_price_share(((-1, 1), (-1, 1))),
+                          owners.is_price_share(((0, 1), (-2, 1))), owners.span('ben')], [(-2, 1), None, False, True, ((-2, 1), (-2, 1))])
+
+    def test_bench(self):
+        book = Book.read(EXAMPLE)
+        bench = Bench(book)
+        done = bench.do(('pour', 'main', ((4, 1), (1, 1), (0, 1))), ('door', 'heat', 'main', (5, 2)))
+        self.assertIsNone(done)
+        done = bench.do(('skim', 'main', 'brine', (1, 2)))
+        self.assertIsNone(done)
+        self.assertEqual([bench('burden'), bench('amount main brine'), bench('skimmed main brine'), bench('poured main heat'), bench('loss'),
+                          bench('what'), bench.history()], ['-1', '1/2', '1/2', '-4', '0', 'unknown', (2, 0)])
+
+    def test_key_and_needless(self):
+        book = Book(['water'], Kind('ice', (1,)), Kind('gem', (2,), cost=(3, 1)))
+        self.assertEqual([key(book), needless(book, 'gem') is None, needless(book, 'ice')], [((), ((1, 0),)), False, None])
 
     def test_text(self):
         with self.assertRaises(InvalidText) as caught:

@@ -32,7 +32,19 @@ FUNCTIONS = {
     "extents": {"extent": "(vessel, name)", "held": "(vessel, ware)"},
     "rates": {"first_cost": "(vessel, direction)", "first_gain": "(vessel, direction)", "small_step": "(vessel, direction)"},
     "stretches": {"stretches": "(vessel, *, ware, window)", "cooled": "(vessel, *, ware, window)"},
-    "bases": {"is_base": "(vessel, value)", "base_field": "(vessel, base, *, ware, other, window)"}}
+    "bases": {"is_base": "(vessel, value)", "base_field": "(vessel, base, *, ware, other, window)"},
+    "needless": {"needless": "(book, name)", "trimmed": "(book)", "shows": "(book, name)"},
+    "bodies": {"key": "(book)", "alike": "(one, other)", "parting": "(one, other)", "joined": "(one, other)"},
+    "verdicts": {"verdict": "(looks, vessel, fill)"},
+    "worktexts": {"works_text": "(works)", "read_works": "(text)"},
+    "workvessels": {"works_vessel": "(works)", "put_together": "(works, fills, flows)", "taken_apart": "(works, fill)",
+                    "pot_rows": "(works, row)"},
+    "workrests": {"works_rest": "(works)", "is_works_rest": "(works, fills, flows, rows)", "settled": "(works)",
+                  "agreeing": "(works, ware, one, other)"},
+    "printing": {"rest_lines": "(rest)"},
+    "deeds": {"is_deed": "(value)", "journal_text": "(deeds)"},
+    "journals": {"replay": "(book, text)"},
+    "papers": {"holds": "(value)", "papers_of": "(vessel)", "book_papers": "(book)"}}
 
 CLASSES = {
     "kinds": {"Kind": ("(name, numbers, *, cost=(0, 1))", {"as_row": "(self)", "text": "(self)"}, ["__eq__", "__repr__"])},
@@ -62,9 +74,28 @@ CLASSES = {
     "fields": {
         "Fields": ("(vessel, *, ware, other, window)", {"fields": "(self)", "field_at": "(self, point)", "borders": "(self)"},
                    ["__len__", "__repr__"]),
-        "Field": (None, {}, ["__contains__", "__repr__"])}}
+        "Field": (None, {}, ["__contains__", "__repr__"])},
+    "looks": {"Looks": ("(book, *, looks=(), sayings=())", {
+        "lines": "(self)", "with_look": "(self, look)", "with_saying": "(self, saying)", "fit": "(self)", "fits_with": "(self, costs)",
+        "sure": "(self, weights, least)", "book_with": "(self, costs)"}, ["__len__", "__bool__", "__repr__"])},
+    "works": {"Works": ("(book, pots, *, gates=(), doors=(), valves=())", {
+        "pot_names": "(self)", "amounts_of": "(self, pot)", "basin": "(self, ware, pot)", "price_at": "(self, ware, pot)",
+        "with_pot": "(self, name, row)", "poured": "(self, pot, row)", "taken": "(self, pot, row)", "with_gate": "(self, ware, one, other)",
+        "without_gate": "(self, ware, one, other)", "with_door": "(self, ware, pot, price)", "with_shut": "(self, ware, pot)",
+        "with_valve": "(self, ware, source, goal, toll)", "without_valve": "(self, ware, source, goal)"},
+        ["__eq__", "__len__", "__repr__"])},
+    "workrests": {"WorksRest": (None, {}, ["__repr__"])},
+    "owners": {"Owners": ("(vessel, *owners)", {
+        "vessel_of": "(self, names)", "burden_of": "(self, names)", "copies_vessel": "(self, copies)", "price_shares": "(self)",
+        "is_price_share": "(self, shares)", "undone": "(self, shares)", "undone_by_copies": "(self, shares)", "span": "(self, name)",
+        "idle": "(self)"}, ["__len__", "__repr__"])},
+    "bench": {"Bench": ("(book)", {
+        "do": "(self, *deeds)", "undo": "(self)", "redo": "(self)", "history": "(self)", "begin": "(self)", "keep": "(self)",
+        "drop": "(self)", "journal": "(self)", "skimmed": "(self, pot)", "rest": "(self)", "whole": "(self)", "loss": "(self)",
+        "fair": "(self)", "text": "(self)", "tried": "(self, *deeds)", "say": "(self, line)", "log": "(self)", "twin": "(self)"},
+        ["__call__", "__eq__", "__len__", "__bool__", "__repr__", "present", "drafting", "busy"])}}
 
-GENERATORS = [("reactions", "least_reactions"), ("lots", "lots")]
+GENERATORS = [("reactions", "least_reactions"), ("lots", "lots"), ("printing", "rest_lines")]
 
 STATIC = [("books", "Book", "read"), ("fills", "Fill", "of")]
 

@@ -168,20 +168,23 @@ class TestNames(unittest.TestCase):
                 self.assertTrue(not name.startswith("_") or name in DOUBLE, (path, name))
 
     def test_methods_and_attributes_are_there(self):
-        methods, attributes = set(), set()
+        methods, attributes, properties = set(), set(), set()
         for path in FILES:
             for node in ast.walk(parsed(path)):
                 if isinstance(node, ast.ClassDef):
-                    methods |= {part.name for part in node.body if isinstance(part, ast.FunctionDef)}
+                    parts = [part for part in node.body if isinstance(part, ast.FunctionDef)]
+                    methods |= {part.name for part in parts}
+                    properties |= {part.name for part in parts if "property" in [word.id for word in part.decorator_list]}
                 if isinstance(node, ast.Attribute) and isinstance(node.ctx, ast.Store):
                     attributes.add(node.attr)
-        self.assertFalse(methods & attributes)
-        self.assertFalse((methods - DOUBLE | attributes) & (METHODS - {"add", "discard"}))
+        methods -= properties
+        self.assertFalse(methods & attributes or properties & attributes)
+        self.assertFalse((methods - DOUBLE | attributes | properties) & (METHODS - {"add", "discard"}))
         for path in FILES:
             for node in ast.walk(with_parents(parsed(path))):
                 if isinstance(node, ast.Attribute):
                     is_called = isinstance(node.parent, ast.Call) and node.parent.func is node
-                    known = METHODS | methods | DOUBLE if is_called else attributes | DOUBLE
+                    known = METHODS | methods | DOUBLE if is_called else attributes | properties | DOUBLE
                     self.assertIn(node.attr, known, (path, node.lineno))
 
 
@@ -255,3 +258,49 @@ class TestStatements(unittest.TestCase):
             if isinstance(node, ast.FormattedValue):
                 inner = [part for part in ast.walk(node.value) if isinstance(part, (ast.JoinedStr, ast.Constant))]
                 self.assertFalse([part for part in inner if not isinstance(getattr(part, "value", ""), int)], where)
+
+    def test_properties_only_return_something_of_their_own(self):
+        for where, node in self.nodes():
+            if isinstance(node, ast.FunctionDef) and "property" in [word.id for word in node.decorator_list]:
+                self.assertEqual([type(part) for part in node.body], [ast.Return], where)
+                self.assertFalse([part for part in ast.walk(node) if isinstance(part, ast.Call)], where)
+
+    def test_finally_only_assigns_what_is_simple(self):
+        for where, node in self.nodes():
+            if isinstance(node, ast.Try):
+                for part in node.finalbody:
+                    self.assertIsInstance(part, ast.Assign, where)
+                    self.assertIsInstance(part.value, (ast.Name, ast.Attribute, ast.Constant), where)
+
+    def test_only_own_errors_are_caught(self):
+        own = {node.name for node in parsed(PACKAGE / "errors.py").body if isinstance(node, ast.ClassDef)}
+        for where, node in self.nodes():
+            if isinstance(node, ast.ExceptHandler):
+                caught = node.type.elts if isinstance(node.type, ast.Tuple) else [node.type]
+                self.assertLessEqual({part.id for part in caught}, own, where)
+
+    def test_stars_in_calls(self):
+        for where, node in self.nodes():
+            if isinstance(node, ast.Call):
+                for part in [part.value for part in node.args if isinstance(part, ast.Starred)]:
+                    # What stands behind a star is a name, or an attribute off one.
+                    self.assertIsInstance(part.value if isinstance(part, ast.Attribute) else part, ast.Name, where)
+
+    def test_lambdas(self):
+        lines = [where for where, node in self.nodes() if isinstance(node, ast.Lambda)]
+        self.assertEqual(len(lines), len(set(lines)))
+        for where, node in self.nodes():
+            if isinstance(node, ast.FunctionDef) and node.name.startswith("_"):
+                self.assertFalse([part for part in ast.walk(node) if isinstance(part, ast.Lambda)], where)
+
+    def test_sets_are_not_kept(self):
+        for where, node in self.nodes():
+            if called(node) == "set" or isinstance(node, (ast.Set, ast.SetComp)):
+                self.assertIn(called(node.parent), ("sorted", "len"), where)
+
+    def test_tables_at_module_level_hold_no_tables(self):
+        for path in FILES:
+            for node in parsed(path).body:
+                if isinstance(node, ast.Assign) and isinstance(node.value, (ast.Dict, ast.List, ast.Tuple)):
+                    inner = [part for part in ast.walk(node.value) if isinstance(part, (ast.Dict, ast.List)) and part is not node.value]
+                    self.assertFalse(inner, (path, node.lineno))
