@@ -162,7 +162,7 @@ class Bench:
 def bench_text(stand):
     works, fills, _ = stand
     lines = [f"skimmed {pot} {row_text(fill.parts)}\n" for pot, fill in zip(works.pot_names(), fills) if fill]
-    return works_text(works) + "".join(lines)
+    return "".join([works_text(works), *lines])
 
 
 def copied(value):

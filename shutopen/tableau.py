@@ -135,6 +135,8 @@ def cleaned(row, other, place, unit):
     """
     keep = other[place]
     drop = row[place]
+    if drop == 0:
+        return row if keep == unit else [number * keep // unit for number in row]
     return [(number * keep - more * drop) // unit for number, more in zip(row, other)]
 
 

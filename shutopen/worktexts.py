@@ -18,7 +18,7 @@ def works_text(works):
     lines.extend([f"door {ware} {pot} {fraction_text(price)}" for ware, pot, price in works.doors])
     for ware, source, goal, toll in works.valves:
         lines.append(f"valve {ware} {source} {goal} {fraction_text(toll)}")
-    return works.book.text() + "".join([f"{line}\n" for line in lines])
+    return "".join([works.book.text(), *[f"{line}\n" for line in lines]])
 
 
 def read_works(text):
