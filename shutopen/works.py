@@ -142,9 +142,7 @@ class Works:
 
 
 def check_pots(book, value):
-    at = first_wrong(value, lambda pot: is_pot(pot, len(book.wares)))
-    if at is None and not value:
-        at = -1
+    at = first_wrong(value, lambda pot: is_pot(pot, len(book.wares))) if value else -1
     if at is not None:
         raise InvalidPot(at)
     double = first_double([name for name, _ in value])

@@ -5,6 +5,7 @@ import unittest
 from fractions import Fraction
 from itertools import combinations
 
+from shutopen.bench import Bench
 from shutopen.books import Book, wide_book
 from shutopen.errors import InvalidName
 from shutopen.fills import Fill
@@ -39,7 +40,7 @@ def any_values():
     return [None, True, False, "", "A b", "open", 7, -1, 1.5, (), [], {}, {"a": (1, 1)}, {"a": [1, {}]}, (None,), [None],
             [True], (True, 1), (1, True), ((True, 1),), [(1, 1)], [[1, 1]], ((2, 4),), "word", {"x": None}, (((1, 1),),),
             book, Kind("a", (1,)), vessel, Fill(book, [(1, 1)]), [book], (vessel, [book]), InvalidName("x"), Reaction(book, [1]),
-            Works(book, [("a", ((1, 1),))]), Looks(book), Owners(vessel, ("a", ((1, 1),)))]
+            Works(book, [("a", ((1, 1),))]), Looks(book), Owners(vessel, ("a", ((1, 1),))), Bench(book)]
 
 
 def frac(value):

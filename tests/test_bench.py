@@ -1,8 +1,9 @@
 import random
+from unittest import mock
 
 from shutopen.bench import Bench
 from shutopen.books import Book
-from shutopen.deeds import journal_text
+from shutopen.deeds import done, journal_text
 from shutopen.errors import (DuplicateName, InDraft, InvalidDeed, InvalidDoor, InvalidFraction, InvalidGate, InvalidName, InvalidRow,
                              InvalidShare, InvalidValve, NoDraft, NothingLeft, NotOpen, Refused, RunsAway, TooMany, Unfillable, Unknown,
                              UnknownGate, UnknownKind, UnknownPot, UnknownValve, UnknownWare, Impossible)
@@ -186,6 +187,19 @@ class TestDeeds(BenchCase):
         self.assertEqual((bench.history(), len(bench)), ((0, 1), 0))
         self.assertEqual(bench.tried(), bench.text())
 
+    def test_busy_while_deeds_are_done(self):
+        bench = example()
+        seen = []
+
+        def watched(stand, deeds):
+            seen.append(bench.busy)
+            return done(stand, deeds)
+
+        with mock.patch("shutopen.bench.done", watched):
+            bench.do(SKIM)
+            self.refused(DuplicateName, bench, ("pot", "main"))
+        self.assertEqual((seen[:2], bench.busy), ([True, True], False))
+
     def test_given_values_are_kept_as_they_are(self):
         bench = example()
         listed = bench.journal()
@@ -297,7 +311,7 @@ class TestHistory(BenchCase):
         rnd = random.Random(241)
         for _ in range(25):
             bench = Bench(Book(["a", "b"], Kind("x", (1, 0)), Kind("y", (0, 1), cost=(1, 1)), Kind("z", (1, 1), cost=(1, 2))))
-            done, undone, outside = [], [], None
+            steps, undone, outside = [], [], None
             for _ in range(25):
                 move = rnd.choice(["do", "do", "do", "undo", "redo", "begin", "keep", "drop"])
                 deeds = [random_deed(rnd) for _ in range(rnd.randint(0, 3))]
@@ -305,37 +319,37 @@ class TestHistory(BenchCase):
                     if move == "do":
                         bench.do(*deeds)
                         if deeds:
-                            done, undone = done + [deeds], []
+                            steps, undone = steps + [deeds], []
                     elif move == "undo":
                         bench.undo()
-                        undone.append(done.pop())
+                        undone.append(steps.pop())
                     elif move == "redo":
                         bench.redo()
-                        done.append(undone.pop())
+                        steps.append(undone.pop())
                     elif move == "begin":
                         bench.begin()
-                        outside = (done, undone)
-                        done, undone = [], []
+                        outside = (steps, undone)
+                        steps, undone = [], []
                     elif move == "keep":
                         bench.keep()
-                        merged = [deed for step in done for deed in step]
-                        done, undone = (outside[0] + [merged], []) if merged else outside
+                        merged = [deed for step in steps for deed in step]
+                        steps, undone = (outside[0] + [merged], []) if merged else outside
                         outside = None
                     else:
                         bench.drop()
-                        done, undone = outside
+                        steps, undone = outside
                         outside = None
                 except NothingLeft:
-                    self.assertFalse(done if move == "undo" else undone)
+                    self.assertFalse(steps if move == "undo" else undone)
                 except InDraft:
                     self.assertEqual((move, outside is None), ("begin", False))
                 except NoDraft:
                     self.assertTrue(move in ("keep", "drop") and outside is None)
                 except (Refused, Unknown, Impossible):
                     self.assertEqual(move, "do")
-                self.assertEqual((bench.history(), bench.drafting, bench.busy), ((len(done), len(undone)), outside is not None, False))
+                self.assertEqual((bench.history(), bench.drafting, bench.busy), ((len(steps), len(undone)), outside is not None, False))
                 ahead = outside[0] if outside else []
-                self.assertEqual(bench.journal(), [deed for step in ahead + done for deed in step])
+                self.assertEqual(bench.journal(), [deed for step in ahead + steps for deed in step])
             again = Bench(bench.present.book)
             for deed in bench.journal():
                 again.do(deed)

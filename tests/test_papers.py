@@ -1,6 +1,5 @@
 import random
 
-from shutopen.bench import Bench
 from shutopen.books import Book, wide_book
 from shutopen.downhill import apart, downhill
 from shutopen.fills import Fill
@@ -39,7 +38,7 @@ class PaperCase(Case):
         self.assertIs(holds([paper]), False)
         self.wrong(paper)
         for at in range(len(paper)):
-            for value in [*any_values(), Bench(example_book()), [paper[at]], (paper[at],)]:
+            for value in [*any_values(), [paper[at]], (paper[at],)]:
                 # The empty lot rests together with any borne price row.
                 if value != paper[at] and (paper[0], at, value) != ("together", 2, ()):
                     self.wrong(*paper[:at], value, *paper[at + 1:])
@@ -102,6 +101,8 @@ class TestVesselPapers(PaperCase):
         # to 3 water and 1 brine cost 1.
         self.right("downhill", self.vessel, fill, Reaction(self.book, (-4, 1, -1, 1, 0)))
         self.wrong("downhill", self.vessel, fill, Reaction(self.book, (-6, 3, -1, 1, 0)))
+        self.wrong("downhill", self.vessel, fill, Reaction(self.book, (0, 0, 0, 1, 0)))
+        self.wrong("downhill", example_vessel(("open", (9, 4))), fill, reaction)
         book = Book(["a"], Kind("x", (1,), cost=(-2, 1)), Kind("y", (-1,), cost=(1, 1)))
         self.right("downhill", Vessel(book, [("shut", (0, 1))]), Fill(book, row(0, 0)), Reaction(book, (3, 3)))
 
@@ -142,6 +143,11 @@ class TestBookPapers(PaperCase):
         self.check("apart", self.book, ("water", "salt"), reaction)
         self.right("apart", self.book, ("steam", "salt", "water"), reaction)
         self.wrong("apart", self.book, ("water",), reaction)
+        self.wrong("apart", self.book, ("water", "salt", "fog"), reaction)
+        twins = Book(["a"], Kind("x", (1,), cost=(1, 1)), Kind("y", (1,), cost=(1, 1)), Kind("z", (1,)))
+        self.wrong("apart", twins, ("x",), Reaction(twins, (-1, 1, 0)))
+        self.right("apart", twins, ("x",), Reaction(twins, (-1, 0, 1)))
+        self.wrong("apart", twins, ("x",), Reaction(twins, (-2, 0, 1)))
         self.wrong("apart", self.book, ("salt",), reaction)
         self.wrong("apart", self.book, ("water", "salt", "salt"), reaction)
         self.wrong("apart", self.book, ["water", "salt"], reaction)
@@ -195,6 +201,8 @@ class TestOtherPapers(PaperCase):
         self.wrong("undone", owners, row(-1, -1), (4, 3), fill)
         self.wrong("undone", owners, row(-1, -1), (3, True), fill)
         self.wrong("undone", owners, row(-1, -1), (3, -4), fill)
+        self.wrong("undone", owners, row(-1, -1), (3, 4, 0), fill)
+        self.wrong("undone", owners, row(-1, -1, 0), (3, 4), fill)
         self.wrong("undone", owners, row(-1, -1), ((3, 1), (4, 1)), fill)
         self.wrong("undone", owners, row(-1, -1), (3, 4), Fill.of(vessel.book, {"ice": (12, 1), "salt": (4, 1)}))
         self.wrong("undone", owners, row("-8/7", "-8/7"), (3, 4), fill)
@@ -202,7 +210,9 @@ class TestOtherPapers(PaperCase):
         # Shares may have any sum.
         self.right("undone", owners, row(5, 7), (0, 1), Fill.of(vessel.book, {"salt": (1, 1)}))
         self.wrong("undone", owners, row(0, 0), (0, 0), Fill.of(vessel.book, {}))
-        self.wrong("undone", owners, row(0, 0), (-1, 0), Fill.of(vessel.book, {}))
+        debts = Owners(vessel, ("ada", row(5, 1, 0)), ("ben", row(-1, 0, 0)))
+        self.right("undone", debts, row(9, -1), (1, 1), Fill.of(vessel.book, {"ice": (4, 1), "salt": (1, 1)}))
+        self.wrong("undone", debts, row(9, -1), (0, -1), Fill.of(vessel.book, {"ice": (1, 1)}))
 
     def test_clash(self):
         book = example_book()
@@ -210,7 +220,7 @@ class TestOtherPapers(PaperCase):
         looks = Looks(book, sayings=[(ice, (1, 1), None), (ice, None, (1, 2))])
         self.check("clash", looks, row(1, 1))
         self.right("clash", looks, row("1/3", "1/3"))
-        for bent in (row(1, 2), row(0, 0), row(1), row(1, 1, 1), row(-1, -1)):
+        for bent in (row(1, 2), row(2, 1), row(0, 0), row(1), row(1, 1, 1), row(-1, -1)):
             self.wrong("clash", looks, bent)
         self.wrong("clash", Looks(book, sayings=[(ice, (1, 1), None), (ice, None, (1, 1))]), row(1, 1))
         more = looks.with_look((("ice",), NONE))
@@ -237,7 +247,7 @@ class TestOtherPapers(PaperCase):
         self.wrong("sure", Looks(book), row(0, 0, 0, 0, 1), (0, 1), ())
 
     def test_values_that_are_no_papers(self):
-        for value in [*any_values(), Bench(example_book()), ("rest",), ("REST", None, None, None), (["rest"], 1, 2, 3), (("rest", 1, 2, 3),),
+        for value in [*any_values(), ("rest",), ("REST", None, None, None), (["rest"], 1, 2, 3), (("rest", 1, 2, 3),),
                       ("paper", 1, 2), ("unfillable", None, None), ("wholly",), ("rest", None, None, None)]:
             self.assertIs(holds(value), False)
         for size in range(6):

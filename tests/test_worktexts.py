@@ -117,6 +117,11 @@ class TestFaults(Case):
                 expected = (at, "unknown") if words[at] == "pot" else (at if at == 0 else at + 1, "form")
                 self.assertEqual(self.fault(text), expected, text)
 
+    def test_first_lines(self):
+        for line in ["pot a", "pot a 1", "kind ice 1 cost 0", "kind ice cost 0", "gate a b c", "door a b 1", "valve a b c 1", "", "Wares a", "wares", "wares "]:
+            self.assertEqual(self.fault(f"{line}\n"), (0, "form"))
+            self.assertEqual(self.fault(f"{line}\n{TEXT}"), (0, "form"))
+
     def test_order_of_the_parts(self):
         self.check("form", "gate water a b")
         self.check("form", "door water a 1")
@@ -172,6 +177,9 @@ class TestFaults(Case):
         self.check("form", *pots, "pot e 0")
         book = text_of(*[f"kind {letter} 0 0 cost 0" for letter in "abcdefgh"])
         self.assertEqual(len(read_works(text_of(*pots[:2], book=book))), 2)
+        for many, most in [(5, 4), (7, 3), (9, 2)]:
+            full = "wares water salt\n" + "".join([f"kind {letter} 0 0 cost 0\n" for letter in "abcdefghij"[:many + 1]])
+            self.assertEqual(len(read_works(text_of(*pots[:most], book=full))), most)
         self.check("many", *pots[:2], "pot a 0 0", book=book)
         self.check("double", pots[0], "pot a 0 0", book=book)
 
